@@ -1,0 +1,1 @@
+"""Breeding programs for an arena."""

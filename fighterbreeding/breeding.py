@@ -37,6 +37,7 @@ class Arena:
         self.draws = None
         self.rows = []
         self.generation = 0
+        self.bests = []
 
 
 def steps_back(arena, parents):
@@ -75,6 +76,13 @@ def best_scores(arena):
     return [arena.born[row[0]].score for row in arena.rows]
 
 
+def living_programs(arena):
+    programs = []
+    for row in arena.rows:
+        programs.extend([arena.born[number].program for number in row])
+    return programs
+
+
 def first_ones(size, island):
     return list(range(island * size, island * size + size))
 
@@ -85,6 +93,7 @@ def begin_breeding(arena, rates, draws):
     while len(arena.born) < rates.islands * rates.size:
         bear_drawn(arena)
     arena.rows = [in_order(arena, first_ones(rates.size, island)) for island in range(rates.islands)]
+    arena.bests.append(best_scores(arena))
 
 
 # A row has the better ones first, so the best of those picked is the one that stands first.
@@ -143,6 +152,7 @@ def breed_generation(arena):
     arena.rows = [row_behind(arena, row) for row in arena.rows]
     if is_time_to_go_over(arena):
         go_over(arena)
+    arena.bests.append(best_scores(arena))
 
 
 def born_behind(arena, generations):

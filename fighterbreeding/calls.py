@@ -1,10 +1,13 @@
 """The calls: what each one refuses, does and answers."""
 
 from fighterbreeding.breeding import Arena, Rates
-from fighterbreeding.breeding import bear_told, begin_breeding, best_scores, born_behind, breed_generation
+from fighterbreeding.breeding import bear_told, begin_breeding, born_behind, breed_generation, living_programs
+from fighterbreeding.changes import CROSSED, MOST_NUMBERS, POINT, changed
+from fighterbreeding.distance import how_far_apart
 from fighterbreeding.draws import Draws, is_draw_number
 from fighterbreeding.families import forebears, in_common
-from fighterbreeding.games import how_many_starts, starts_played
+from fighterbreeding.games import how_many_starts, points_against_each, result_of_ring, ring_behind
+from fighterbreeding.games import starts_played, turns_done
 from fighterbreeding.programs import World, cells_of_row, is_program_row, is_within, row_of_cells
 
 WRONG = -1
@@ -19,8 +22,12 @@ MOST_IN_PANEL = 4
 MOST_TOLD = 10
 MOST_BORN = 300
 HOW_MANY_WEIGHTS = 5
+GREATEST_RECIPE_NUMBER = 1000
+GREATEST_DRAW_BOUND = 1000000
+MOST_DRAWS = 50
 
 NEW = 0
+DRAWS = 13
 
 
 class Line:
@@ -110,7 +117,7 @@ def answer_begin(arena, numbers, rows):
         return [TOO_MANY]
     rates = Rates(numbers[1], numbers[2], numbers[3], numbers[4], numbers[5], rows[0])
     begin_breeding(arena, rates, Draws(numbers[0]))
-    return with_rows(len(arena.born), [best_scores(arena)])
+    return with_rows(len(arena.born), arena.bests)
 
 
 def answer_breed(arena, numbers, rows):
@@ -120,11 +127,9 @@ def answer_breed(arena, numbers, rows):
         return [WRONG]
     if born_behind(arena, numbers[0]) > MOST_BORN:
         return [TOO_MANY_BORN]
-    bests = []
     for generation in range(numbers[0]):
         breed_generation(arena)
-        bests.append(best_scores(arena))
-    return with_rows(arena.generation, bests)
+    return with_rows(arena.generation, arena.bests[-numbers[0]:])
 
 
 def answer_living(arena, numbers, rows):
@@ -159,9 +164,88 @@ def answer_common(arena, numbers, rows):
     return with_rows(len(found), [found])
 
 
+def are_program_rows(world, rows):
+    return all([is_program_row(world, row) for row in rows])
+
+
+def answer_score(arena, numbers, rows):
+    if not is_program_row(arena.world, rows[0]):
+        return [WRONG]
+    points = points_against_each(arena.world, arena.panel, cells_of_row(rows[0]))
+    return with_rows(sum(points), [points])
+
+
+def is_game(world, start, turn):
+    return is_within(start, world.apart, world.cells - world.apart) and is_within(turn, 0, 1)
+
+
+def answer_game(arena, numbers, rows):
+    world = arena.world
+    if not (is_game(world, numbers[0], numbers[1]) and are_program_rows(world, rows)):
+        return [WRONG]
+    ring = ring_behind(world, cells_of_row(rows[0]), cells_of_row(rows[1]), numbers[0], numbers[1])
+    return with_rows(result_of_ring(ring), [[turns_done(world, ring)], ring.hands[0], ring.hands[1]])
+
+
+def is_recipe(kind, numbers):
+    if not is_within(kind, POINT, CROSSED) or len(numbers) > MOST_NUMBERS:
+        return False
+    return all([is_within(number, 0, GREATEST_RECIPE_NUMBER) for number in numbers])
+
+
+def answer_change(arena, numbers, rows):
+    if not (is_recipe(numbers[0], rows[0]) and are_program_rows(arena.world, rows[1:])):
+        return [WRONG]
+    program = changed(arena.world, numbers[0], rows[0], cells_of_row(rows[1]), cells_of_row(rows[2]))
+    return with_rows(len(program), [row_of_cells(program)])
+
+
+def answer_apart(arena, numbers, rows):
+    if not are_program_rows(arena.world, rows):
+        return [WRONG]
+    return [how_far_apart(cells_of_row(rows[0]), cells_of_row(rows[1]))]
+
+
+def are_draws(number, m, how_many):
+    return is_draw_number(number) and is_within(m, 1, GREATEST_DRAW_BOUND) and is_within(how_many, 1, MOST_DRAWS)
+
+
+# Draws of their own, so that the breeding's stay where they are.
+def answer_draws(numbers):
+    if not are_draws(numbers[0], numbers[1], numbers[2]):
+        return [WRONG]
+    draws = Draws(numbers[0])
+    drawn = [draws.below(numbers[1]) for time_drawn in range(numbers[2])]
+    return with_rows(draws.number, [drawn])
+
+
+def answer_bests(arena, numbers, rows):
+    return with_rows(len(arena.bests), arena.bests)
+
+
+# Who lives on two islands is counted on each, as living tells it on each.
+def answer_unlike(arena, numbers, rows):
+    living = [tuple(program) for program in living_programs(arena)]
+    times = {}
+    for program in living:
+        times[program] = times.get(program, 0) + 1
+    return with_rows(len(times), [[times[program] for program in living]])
+
+
+def draw_number_now(arena):
+    if not has_begun(arena):
+        return 0
+    return arena.draws.number
+
+
+def answer_counts(arena, numbers, rows):
+    told = [len(arena.panel), len(arena.born), len(arena.rows), draw_number_now(arena)]
+    return with_rows(arena.generation, [told])
+
+
 # Each call's whole numbers and rows, as the list of calls has them, and what answers it in a world.
-HOW_MANY_NUMBERS = (6, 0, 0, 6, 1, 1, 1, 1, 2)
-HOW_MANY_ROWS = (0, 1, 1, 1, 0, 0, 0, 0, 0)
+HOW_MANY_NUMBERS = (6, 0, 0, 6, 1, 1, 1, 1, 2, 0, 2, 1, 0, 3, 0, 0, 0)
+HOW_MANY_ROWS = (0, 1, 1, 1, 0, 0, 0, 0, 0, 1, 2, 3, 2, 0, 0, 0, 0)
 ANSWERING = {
     1: answer_panel,
     2: answer_first,
@@ -171,12 +255,21 @@ ANSWERING = {
     6: answer_one,
     7: answer_tree,
     8: answer_common,
+    9: answer_score,
+    10: answer_game,
+    11: answer_change,
+    12: answer_apart,
+    14: answer_bests,
+    15: answer_unlike,
+    16: answer_counts,
 }
 
 
 def answer_call(line, call, numbers, rows):
     if call == NEW:
         return answer_new(line, numbers)
+    if call == DRAWS:
+        return answer_draws(numbers)
     if line.arena is None:
         return [NO_WORLD]
     answering = ANSWERING[call]

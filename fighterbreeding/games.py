@@ -34,10 +34,18 @@ def result_of_ring(ring):
     return BOTH_LEFT
 
 
-def game_points(world, program, other, start, turn):
+def ring_behind(world, program, other, start, turn):
     ring = ring_before(world, program, other, start, turn)
     run_to_end(ring)
-    return POINTS_OF_RESULT[result_of_ring(ring)]
+    return ring
+
+
+def turns_done(world, ring):
+    return 2 * world.rounds - ring.left
+
+
+def game_points(world, program, other, start, turn):
+    return POINTS_OF_RESULT[result_of_ring(ring_behind(world, program, other, start, turn))]
 
 
 def points_against(world, program, other):
@@ -48,5 +56,9 @@ def points_against(world, program, other):
     return total
 
 
+def points_against_each(world, panel, program):
+    return [points_against(world, program, other) for other in panel]
+
+
 def score_of(world, panel, program):
-    return sum([points_against(world, program, other) for other in panel])
+    return sum(points_against_each(world, panel, program))

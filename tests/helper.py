@@ -4,6 +4,8 @@ The second telling keeps to the document's words and to nothing of the package, 
 each other.
 """
 
+import functools
+
 from fighterbreeding.arena import answers
 
 MODULUS = 2147483647
@@ -52,6 +54,42 @@ def tree(i):
 
 def common(i, j):
     return [8, i, j]
+
+
+def scored(program):
+    return [9, len(program)] + list(program)
+
+
+def game(s, turn, program, other):
+    return [10, s, turn, len(program)] + list(program) + [len(other)] + list(other)
+
+
+def change(kind, numbers, program, other=DIES):
+    return [11, kind, len(numbers)] + list(numbers) + [len(program)] + list(program) + [len(other)] + list(other)
+
+
+def apart(program, other):
+    return [12, len(program)] + list(program) + [len(other)] + list(other)
+
+
+def draws(x, m, k):
+    return [13, x, m, k]
+
+
+def bests():
+    return [14]
+
+
+def unlike():
+    return [15]
+
+
+def counts():
+    return [16]
+
+
+# All that can be seen of a world with two islands of which at least twelve were born.
+LOOKS = [living(0), living(1), one(0), one(11), tree(11), common(10, 11), scored(STAYS), bests(), unlike(), counts()]
 
 
 def split(written):
@@ -103,17 +141,16 @@ def draw(state, m):
 
 
 def play(world, mine, other, start, turn):
-    """The two rows of hands at the end of a game."""
+    """The two rows of hands at the end of a game, and how many turns were done."""
     n, most, rounds = world[0], world[1], world[2]
-    ring = {place: [0, 0, 0] for place in range(n)}
+    ring = [(0, 0, 0)] * n
     for base, cells in ((0, mine), (start, other)):
         for at in range(0, len(cells), 3):
-            ring[base + at // 3] = list(cells[at:at + 3])
+            ring[base + at // 3] = tuple(cells[at:at + 3])
     hands = ([0], [start])
-    for left in range(2 * rounds):
-        if not hands[0] or not hands[1]:
-            break
-        was = {place: tuple(cell) for place, cell in ring.items()}
+    done = 0
+    while done < 2 * rounds and hands[0] and hands[1]:
+        was = list(ring)
         p = hands[turn].pop(0)
         op, a, b = was[p]
         to_a, to_b = (p + a) % n, (p + b) % n
@@ -121,20 +158,21 @@ def play(world, mine, other, start, turn):
         if op == 0:
             on = []
         if op == 1:
-            ring[to_b] = list(was[to_a])
+            ring[to_b] = was[to_a]
         if op == 2:
-            ring[to_b][2] = (was[to_b][2] + was[to_a][2]) % n
+            ring[to_b] = was[to_b][:2] + ((was[to_b][2] + was[to_a][2]) % n,)
         if op == 3 or (op == 4 and was[to_b][2] != 0):
             on = [to_a]
         if op == 5:
             on.append(to_a)
         if op == 6:
-            ring[to_a][2] = b
+            ring[to_a] = was[to_a][:2] + (b,)
         if op == 7:
-            ring[to_a], ring[to_b] = list(was[to_b]), list(was[to_a])
+            ring[to_a], ring[to_b] = was[to_b], was[to_a]
         hands[turn].extend(on[:most - len(hands[turn])])
         turn = 1 - turn
-    return hands
+        done += 1
+    return hands, done
 
 
 def played(world):
@@ -144,15 +182,37 @@ def played(world):
     return [there[i * len(there) // c] for i in range(c)]
 
 
-def score(world, opponents, program):
-    total = 0
+def result(hands):
+    if hands[0] and hands[1]:
+        return 0
+    return 1 if hands[0] else 2
+
+
+def points(world, opponents, program):
+    row = []
     for other in opponents:
-        for start in played(world):
-            for turn in (0, 1):
-                mine, theirs = play(world, program, other, start, turn)
-                if mine:
-                    total += 1 if theirs else 2
-    return total
+        results = [result(play(world, program, other, start, turn)[0]) for start in played(world) for turn in (0, 1)]
+        row.append(2 * results.count(1) + results.count(0))
+    return row
+
+
+def score(world, opponents, program):
+    return sum(points(world, opponents, program))
+
+
+def cells_of(row):
+    return [tuple(row[at:at + 3]) for at in range(0, len(row), 3)]
+
+
+def far(x, y):
+    """How far apart the rows x and y are."""
+    @functools.lru_cache(None)
+    def least(mine, other):
+        if not mine or not other:
+            return len(mine) + len(other)
+        return min(least(mine[1:], other) + 1, least(mine, other[1:]) + 1,
+                   least(mine[1:], other[1:]) + (mine[0] != other[0]))
+    return least(tuple(cells_of(x)), tuple(cells_of(y)))
 
 
 def made(world, recipe, x, y):
@@ -242,3 +302,197 @@ def over(rows, better):
         if row[0] not in rows[to]:
             behind[to][-1] = row[0]
     return [sorted(row, key=better) for row in behind]
+
+
+# Each call's name, how many whole numbers it has, and how many rows.
+SHAPES = (("new", 6, 0), ("panel", 0, 1), ("first", 0, 1), ("begin", 6, 1), ("breed", 1, 0), ("living", 1, 0),
+          ("one", 1, 0), ("tree", 1, 0), ("common", 2, 0), ("score", 0, 1), ("game", 2, 2), ("change", 1, 3),
+          ("apart", 0, 2), ("draws", 3, 0), ("bests", 0, 0), ("unlike", 0, 0), ("counts", 0, 0))
+
+
+def parts(call):
+    """A call's name, and its whole numbers and rows one behind another."""
+    name, many, rows = SHAPES[call[0]]
+    found = call[1:1 + many]
+    at = 1 + many
+    for row in range(rows):
+        found.append(call[at + 1:at + 1 + call[at]])
+        at += 1 + call[at]
+    return name, found
+
+
+def with_lengths(value, *rows):
+    return [value] + [number for row in rows for number in [len(row)] + list(row)]
+
+
+def generations(value, rows):
+    return [value] + rows[0] if len(rows) == 1 else with_lengths(value, *rows)
+
+
+class Telling:
+    """All seventeen calls told over again, each by a method of its name."""
+
+    def __init__(self):
+        self.world = None
+
+    def answer(self, call):
+        name, found = parts(call)
+        if self.world is None and name not in ("new", "draws"):
+            return [-2]
+        return getattr(self, name)(*found)
+
+    def wrong(self, *rows):
+        """Whether one of the rows is no program of this world."""
+        n, longest = self.world[0], self.world[4]
+        for row in rows:
+            if len(row) not in range(3, 3 * longest + 1, 3):
+                return True
+            if any(not 0 <= number < bound for number, bound in zip(row, (8, n, n) * longest)):
+                return True
+        return False
+
+    def people(self):
+        if self.bred:
+            return self.bred.people
+        return [(score(self.world, self.opponents, row), row, 0, [], [9]) for row in self.told]
+
+    def new(self, n, hands, rounds, d, longest, q):
+        if not (8 <= n <= 32 and 1 <= hands <= 4 and 1 <= rounds <= 40 and 1 <= d <= 8 and n >= 2 * d
+                and 1 <= longest <= 8 and longest <= d and 1 <= q <= 4):
+            return [-1]
+        self.world = (n, hands, rounds, d, longest, q)
+        self.opponents, self.told, self.bred, self.best = [], [], None, []
+        return [n - 2 * d + 1] + played(self.world)
+
+    def panel(self, row):
+        if self.bred or self.told:
+            return [-3]
+        if self.wrong(row):
+            return [-1]
+        if len(self.opponents) == 4:
+            return [-5]
+        self.opponents.append(row)
+        return [len(self.opponents)]
+
+    def first(self, row):
+        if self.bred:
+            return [-3]
+        if self.wrong(row):
+            return [-1]
+        if len(self.told) == 10:
+            return [-5]
+        self.told.append(row)
+        return [score(self.world, self.opponents, row), len(self.told) - 1]
+
+    def begin(self, seed, islands, size, elite, pick, every, weights):
+        if self.bred:
+            return [-3]
+        if not (1 <= seed <= 2147483646 and 1 <= islands <= 3 and 2 <= size <= 10 and 0 <= elite <= size - 1
+                and 1 <= pick <= 4 and 0 <= every <= 10 and len(weights) == 5 and min(weights) >= 0
+                and 0 < max(weights) <= 9):
+            return [-1]
+        if not self.opponents:
+            return [-4]
+        if len(self.told) > size:
+            return [-5]
+        self.bred = Told(self.world, self.opponents, self.told, seed, islands, size, elite, pick, every, weights)
+        self.best.append(self.bred.bests())
+        return [len(self.bred.people)] + self.best[0]
+
+    def breed(self, k):
+        if not self.bred:
+            return [-4]
+        if not 1 <= k <= 10:
+            return [-1]
+        if len(self.bred.people) + k * self.bred.islands * (self.bred.size - self.bred.elite) > 300:
+            return [-8]
+        now = [self.bred.breed() for generation in range(k)]
+        self.best += now
+        return generations(self.bred.generation, now)
+
+    def living(self, i):
+        if not self.bred or not 0 <= i < self.bred.islands:
+            return [-6]
+        row = self.bred.rows[i]
+        return with_lengths(len(row), row, [self.bred.people[number][0] for number in row])
+
+    def lacks(self, *numbers):
+        return any(not 0 <= number < len(self.people()) for number in numbers)
+
+    def families(self):
+        found = []
+        for own, row, generation, parents, recipe in self.people():
+            found.append(set(parents).union(*[found[parent] for parent in parents]))
+        return found
+
+    def one(self, i):
+        if self.lacks(i):
+            return [-6]
+        own, row, generation, parents, recipe = self.people()[i]
+        return with_lengths(own, row, [generation], parents, recipe)
+
+    def tree(self, i):
+        if self.lacks(i):
+            return [-6]
+        steps = []
+        for somebody in self.people():
+            steps.append(max([steps[parent] + 1 for parent in somebody[3]], default=0))
+        forebears = sorted(self.families()[i])
+        return with_lengths(len(forebears), forebears, [steps[i]])
+
+    def common(self, i, j):
+        if self.lacks(i, j):
+            return [-6]
+        families = self.families()
+        both = sorted((families[i] | {i}) & (families[j] | {j}))
+        return [len(both)] + both
+
+    def score(self, row):
+        if self.wrong(row):
+            return [-1]
+        found = points(self.world, self.opponents, row)
+        return [sum(found)] + found
+
+    def game(self, s, turn, row, other):
+        n, d = self.world[0], self.world[3]
+        if not d <= s <= n - d or turn not in (0, 1) or self.wrong(row, other):
+            return [-1]
+        hands, done = play(self.world, row, other, s, turn)
+        return with_lengths(result(hands), [done], hands[0], hands[1])
+
+    def change(self, kind, numbers, row, other):
+        if not 1 <= kind <= 5 or len(numbers) > 4 or any(not 0 <= number <= 1000 for number in numbers):
+            return [-1]
+        if self.wrong(row, other):
+            return [-1]
+        found = made(self.world, [kind] + numbers, row, other)
+        return [len(found) // 3] + found
+
+    def apart(self, row, other):
+        return [-1] if self.wrong(row, other) else [far(row, other)]
+
+    def draws(self, x, m, k):
+        if not (1 <= x <= 2147483646 and 1 <= m <= 1000000 and 1 <= k <= 50):
+            return [-1]
+        state = [x]
+        found = [draw(state, m) for time in range(k)]
+        return state + found
+
+    def bests(self):
+        return generations(len(self.best), self.best) if self.best else [0]
+
+    def unlike(self):
+        living = [self.bred.people[number][1] for row in self.bred.rows for number in row] if self.bred else []
+        return [len({tuple(row) for row in living})] + [living.count(row) for row in living]
+
+    def counts(self):
+        many = len(self.people())
+        if not self.bred:
+            return [0, len(self.opponents), many, 0, 0]
+        return [self.bred.generation, len(self.opponents), many, self.bred.islands, self.bred.state[0]]
+
+
+def tell(*calls):
+    """What the document asks of each call of a line."""
+    telling = Telling()
+    return [telling.answer(call) for call in calls]

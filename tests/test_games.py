@@ -2,8 +2,9 @@ import random
 import unittest
 
 import helper
-from fighterbreeding.games import how_many_starts, points_against, result_of_ring, ring_before, score_of, starts_played
-from fighterbreeding.machine import Ring, run_to_end
+from fighterbreeding.games import how_many_starts, points_against, points_against_each, result_of_ring, ring_before
+from fighterbreeding.games import ring_behind, score_of, starts_played, turns_done
+from fighterbreeding.machine import Ring
 from fighterbreeding.programs import World, cells_of_row, is_program_row, row_of_cells
 
 
@@ -51,6 +52,7 @@ class GamesTest(unittest.TestCase):
     def test_the_score_is_that_against_all_of_the_panel(self):
         world = world_of((8, 2, 3, 2, 2, 1))
         dies, stays = [(0, 0, 0)], [(3, 0, 0)]
+        self.assertEqual(points_against_each(world, [dies, stays, dies], stays), [4, 2, 4])
         self.assertEqual(score_of(world, [dies, stays, dies], stays), 10)
         self.assertEqual(score_of(world, [], stays), 0)
 
@@ -63,9 +65,10 @@ class GamesTest(unittest.TestCase):
             numbers = (n, source.randint(1, 4), source.randint(1, 40), d, longest, source.randint(1, 4))
             mine, other = [random_row(source, n, longest) for which in range(2)]
             start, turn = source.randint(d, n - d), source.randint(0, 1)
-            ring = ring_before(world_of(numbers), cells_of_row(mine), cells_of_row(other), start, turn)
-            run_to_end(ring)
-            self.assertEqual(ring.hands, list(helper.play(numbers, mine, other, start, turn)), (numbers, mine, other))
+            world = world_of(numbers)
+            ring = ring_behind(world, cells_of_row(mine), cells_of_row(other), start, turn)
+            hands, done = helper.play(numbers, mine, other, start, turn)
+            self.assertEqual((ring.hands, turns_done(world, ring)), (list(hands), done), (numbers, mine, other))
 
 
 def random_row(source, n, longest):

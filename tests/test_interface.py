@@ -3,10 +3,15 @@
 import unittest
 
 import fighterbreeding.arena
-from helper import STAYS, begin, breed, common, first, living, new, one, panel, ready, split, tree
+from helper import STAYS, apart, begin, bests, breed, change, common, counts, draws, first, game, living, new, one, panel
+from helper import ready, scored, split, tree, unlike
 
-LINE = ready() + [first(STAYS), begin(), breed(2), breed(1), breed(0), living(0), living(7), one(0), one(15), tree(15),
-                  common(15, 16), new(q=9), new(), panel([]), first(STAYS)]
+LATER = [scored(STAYS), scored([]), game(4, 0, STAYS, [5, 1, 0, 3, 0, 0]), game(3, 0, STAYS, STAYS),
+         change(5, [1, 2, 3], STAYS + STAYS, [1, 0, 1]), change(9, [], STAYS), apart(STAYS, [1, 0, 1]), apart(STAYS, []),
+         draws(5, 100, 3), draws(0, 1, 1), bests(), unlike(), counts()]
+LINE = ready() + LATER + [first(STAYS), begin()] + LATER
+LINE += [breed(2), breed(1), breed(0), living(0), living(7), one(0), one(15), tree(15), common(15, 16)] + LATER
+LINE += [new(q=9), new(), panel([]), first(STAYS)] + LATER
 
 
 def flat(calls):
@@ -21,6 +26,25 @@ class InterfaceTest(unittest.TestCase):
         line = flat([new(n=8, d=2, longest=2, rounds=3, q=1), panel([0, 0, 0]), first(STAYS), one(0), tree(0)])
         self.assertEqual(fighterbreeding.arena.answers(line),
                          [2, 5, 2, 1, 1, 2, 4, 0, 10, 4, 3, 3, 0, 0, 1, 0, 0, 1, 9, 4, 0, 0, 1, 0])
+
+    def test_how_the_answers_of_the_later_calls_are_written(self):
+        line = flat([new(n=8, d=2, longest=2, rounds=3, q=1), panel([0, 0, 0]), scored(STAYS)])
+        self.assertEqual(fighterbreeding.arena.answers(line)[-3:], [2, 4, 4])
+        for calls, expected in (
+                ([game(2, 0, STAYS, [5, 0, 0, 3, 0, 0])], [8, 0, 1, 6, 1, 0, 2, 3, 3]),
+                ([game(2, 0, STAYS, [0, 0, 0])], [6, 1, 1, 2, 1, 0, 0]),
+                ([change(4, [], STAYS)], [7, 2, 3, 0, 0, 3, 0, 0]),
+                ([apart(STAYS, STAYS + [0, 0, 0])], [1, 1]),
+                ([draws(1, 100, 2)], [3, 182605794, 70, 93]),
+                ([bests()], [1, 0]),
+                ([unlike()], [1, 0]),
+                ([counts()], [5, 0, 1, 0, 0, 0]),
+                ([first(STAYS), first(STAYS), begin(7, 1, 2, 1, 1, 0), bests(), unlike(), counts()],
+                 [2, 4, 0, 2, 4, 1, 2, 2, 4, 2, 1, 4, 3, 1, 2, 2, 5, 0, 1, 2, 1, 7]),
+                ([first(STAYS), first(STAYS), begin(7, 1, 2, 1, 1, 0, (0, 0, 1, 0, 0)), breed(1), bests(), unlike()],
+                 [2, 4, 0, 2, 4, 1, 2, 2, 4, 2, 1, 4, 5, 2, 1, 4, 1, 4, 3, 1, 2, 2])):
+            found = fighterbreeding.arena.answers(line + flat(calls))
+            self.assertEqual(found[len(fighterbreeding.arena.answers(line)):], expected, calls)
 
     def test_an_answer_for_each_call(self):
         self.assertEqual(len(split(fighterbreeding.arena.answers(flat(LINE)))), len(LINE))

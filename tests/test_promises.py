@@ -4,7 +4,8 @@ import random
 import unittest
 
 import helper
-from helper import DIES, STAYS, ask, begin, breed, first, last, living, one, ready, rows_of
+from helper import DIES, LOOKS, STAYS, ask, begin, bests, breed, change, counts, draws, first, last, living, one, ready
+from helper import rows_of, scored, unlike
 
 BEGINNINGS = (
     begin(seed=5, islands=3, size=5, elite=1, pick=2, every=2),
@@ -17,6 +18,9 @@ BEGINNINGS = (
 
 def looks(call):
     return [living(i) for i in range(call[2])]
+
+
+TOLD = [bests(), unlike(), counts()]
 
 
 def everybody(line, many):
@@ -47,6 +51,19 @@ class SamePiecesTest(unittest.TestCase):
             whole_people = everybody(line + [breed(6)], born(call, 6))
             self.assertEqual(everybody(line + [breed(1), breed(2), breed(3)], born(call, 6)), whole_people)
 
+    def test_what_is_told_is_the_same_in_whatever_pieces(self):
+        for call in BEGINNINGS:
+            line = ready() + [first(STAYS), call]
+            whole = ask(*line, breed(6), *TOLD)[-3:]
+            for pieces in ((1, 5), (3, 3), (2, 1, 3), (1, 1, 1, 1, 1, 1)):
+                asked = [part for k in pieces for part in [breed(k)] + TOLD + [draws(7, 7, 7), scored(DIES)]]
+                self.assertEqual(ask(*line, *asked, *TOLD)[-3:], whole)
+
+    def test_another_world_between_leaves_nothing(self):
+        line = ready() + [first(STAYS), BEGINNINGS[0], breed(3)] + LOOKS
+        before = ready([DIES], n=9, d=3, longest=2) + [first(DIES), BEGINNINGS[1], breed(2)] + LOOKS
+        self.assertEqual(ask(*before, *line)[-len(line):], ask(*line))
+
     def test_also_with_looks_and_refusals_between(self):
         call = BEGINNINGS[0]
         line = ready() + [first(STAYS), call]
@@ -68,6 +85,14 @@ class BestNeverFallsTest(unittest.TestCase):
             for bests in rows_of(answers[-1]):
                 self.assertTrue(all(now >= then for now, then in zip(bests, before)), (call, bests, before))
                 before = bests
+
+    def test_as_bests_tells_it(self):
+        for seed in range(1, 40):
+            call = begin(seed=seed, islands=1 + seed % 3, size=4, elite=1 + seed % 3, every=seed % 4)
+            rows = rows_of(last(*ready(), call, breed(4), breed(5), bests()))
+            self.assertEqual(len(rows), 10)
+            for island in zip(*rows):
+                self.assertEqual(list(island), sorted(island))
 
     def test_the_elite_stay(self):
         for elite in (1, 2, 3):
@@ -109,6 +134,19 @@ class RecipesTest(unittest.TestCase):
         if recipe[0] != 5:
             self.assertEqual(parents[0], parents[1])
 
+    def test_change_and_score_make_everybody_again(self):
+        for call in BEGINNINGS[:3]:
+            line = ready() + [first(STAYS), call, breed(5)]
+            people = everybody(line, born(call, 5))
+            children = [somebody for somebody in people if somebody[3]][:60]
+            asked = []
+            for own, program, generation, parents, recipe in children:
+                asked += [change(recipe[0], recipe[1:], *[people[parent][1] for parent in parents]), scored(program)]
+            found = ask(*line, *asked)[-len(asked):]
+            for at, somebody in enumerate(children):
+                self.assertEqual(found[2 * at][1:], somebody[1])
+                self.assertEqual(found[2 * at + 1][0], somebody[0])
+
     def test_a_weight_of_0_is_never_drawn(self):
         for kind in range(1, 6):
             weights = [0] * 5
@@ -128,6 +166,14 @@ class HowManyLiveTest(unittest.TestCase):
                     self.assertEqual(len(set(numbers)), call[3])
                     self.assertEqual(sorted(zip([-own for own in scores], numbers)),
                                      list(zip([-own for own in scores], numbers)))
+
+
+    def test_as_unlike_and_counts_tell_it(self):
+        for call in BEGINNINGS:
+            for k in (1, 2, 3, 6):
+                found = ask(*ready(), call, breed(k), *TOLD)
+                self.assertEqual(len(found[-2]) - 1, call[2] * call[3])
+                self.assertEqual(found[-1][:4], [k, 3, born(call, k), call[2]])
 
 
 class GoingOverTest(unittest.TestCase):
@@ -206,6 +252,19 @@ class DrawsAreFairTest(unittest.TestCase):
             number = y * pow(48271, again, helper.MODULUS) % helper.MODULUS
             found = rows_of(last(*line, breed(1), one(2)))[3]
             self.assertEqual(found, [3, (number - 1) % 64])
+
+    def test_draws_are_spread_evenly(self):
+        for m in (2, 3, 7, 10, 64):
+            found = [0] * m
+            x = 2026
+            for time in range(150 * m):
+                answer = last(draws(x, m, 50))
+                x = answer[0]
+                for number in answer[1:]:
+                    found[number] += 1
+                if sum(found) >= 1000 * m:
+                    break
+            self.assertTrue(all(850 < many < 1150 for many in found), found)
 
     def test_drawn_cells_are_spread_evenly(self):
         ops = [0] * 8
